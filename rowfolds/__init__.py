@@ -1,0 +1,1 @@
+"""Rowfolds: rows of numbers and their blocks."""

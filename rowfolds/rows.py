@@ -1,0 +1,76 @@
+"""Rows: tuples that contain each of the numbers 0 to n - 1 once."""
+
+from rowfolds.bounds import MAX_PLACES
+from rowfolds.errors import NoPlaces, NoRows, TooLong
+from rowfolds.values import is_index
+
+
+def is_row(value):
+    """Return whether any value is a row."""
+    return row_error(value) is None
+
+
+def row_error(value):
+    """Return None for a row, and otherwise (place or None, word) for its first error."""
+    if not isinstance(value, tuple) or not 1 <= len(value) <= MAX_PLACES:
+        return (None, "row")
+    for place, item in enumerate(value):
+        if not is_index(item, len(value)):
+            return (place, "number")
+        if item in value[:place]:
+            return (place, "twice")
+    return None
+
+
+def pattern_of(numbers):
+    """Return the row in which each number is replaced by how many are smaller."""
+    ascending = sorted(numbers)
+    return tuple([ascending.index(number) for number in numbers])
+
+
+def reversed_row(row):
+    """Return the row with its places in opposite order."""
+    return row[::-1]
+
+
+def flipped_row(row):
+    """Return the row in which each number x is replaced by n - 1 - x."""
+    return tuple([len(row) - 1 - number for number in row])
+
+
+def inverse_row(row):
+    """Return the row whose number at place x is the place of x."""
+    return tuple([row.index(number) for number in range(len(row))])
+
+
+def are_places(row, value):
+    """Return whether any value is an ascending tuple of one or more places of the row."""
+    if not isinstance(value, tuple) or len(value) == 0:
+        return False
+    # Only integers are compared with each other: other items may have no order.
+    if not all([is_index(item, len(row)) for item in value]):
+        return False
+    return all([place < later for place, later in zip(value, value[1:])])
+
+
+def chosen(row, places):
+    """Return the pattern of the numbers at the places."""
+    if not are_places(row, places):
+        raise NoPlaces(places)
+    return pattern_of(tuple([row[place] for place in places]))
+
+
+def joined(*rows, falling=False):
+    """Return the rows side by side, each one above (or below) those before it."""
+    if len(rows) == 0:
+        raise NoRows()
+    size = sum([len(row) for row in rows])
+    if size > MAX_PLACES:
+        raise TooLong(MAX_PLACES)
+    numbers = []
+    for row in rows:
+        before = len(numbers)
+        # A row lies above all entries that are smaller: those before it, or those after it.
+        smaller = size - before - len(row) if falling else before
+        numbers.extend([smaller + number for number in row])
+    return tuple(numbers)
