@@ -2,7 +2,7 @@
 
 from rowfolds.bounds import MAX_PLACES
 from rowfolds.errors import NoBlock
-from rowfolds.values import is_index
+from rowfolds.values import is_index, is_pair
 
 
 def numbers_follow(row, first, last):
@@ -15,7 +15,7 @@ def numbers_follow(row, first, last):
 
 def is_block(row, value):
     """Return whether any value is a block of the row."""
-    if not isinstance(value, tuple) or len(value) != 2:
+    if not is_pair(value):
         return False
     first, last = value
     if not is_index(first, len(row)) or not is_index(last, len(row)):

@@ -12,7 +12,12 @@ def is_row(value):
 
 def row_error(value):
     """Return None for a row, and otherwise (place or None, word) for its first error."""
-    if not isinstance(value, tuple) or not 1 <= len(value) <= MAX_PLACES:
+    return error_within(value, MAX_PLACES)
+
+
+def error_within(value, most):
+    """Return what row_error returns where rows may have that many places at most."""
+    if not isinstance(value, tuple) or not 1 <= len(value) <= most:
         return (None, "row")
     for place, item in enumerate(value):
         if not is_index(item, len(value)):
@@ -60,17 +65,26 @@ def chosen(row, places):
     return pattern_of(tuple([row[place] for place in places]))
 
 
+def size_below(order, sizes, number):
+    """Return the sum of the sizes that stand at smaller numbers of order than this one."""
+    return sum([size for other, size in zip(order, sizes) if other < number])
+
+
+def put_together(order, rows):
+    """Return the rows side by side, the numbers of one following those of another as order says."""
+    sizes = [len(row) for row in rows]
+    numbers = []
+    for rank, row in zip(order, rows):
+        smaller = size_below(order, sizes, rank)
+        numbers.extend([smaller + number for number in row])
+    return tuple(numbers)
+
+
 def joined(*rows, falling=False):
     """Return the rows side by side, each one above (or below) those before it."""
     if len(rows) == 0:
         raise NoRows()
-    size = sum([len(row) for row in rows])
-    if size > MAX_PLACES:
+    if sum([len(row) for row in rows]) > MAX_PLACES:
         raise TooLong(MAX_PLACES)
-    numbers = []
-    for row in rows:
-        before = len(numbers)
-        # A row lies above all entries that are smaller: those before it, or those after it.
-        smaller = size - before - len(row) if falling else before
-        numbers.extend([smaller + number for number in row])
-    return tuple(numbers)
+    order = tuple(range(len(rows)))
+    return put_together(reversed_row(order) if falling else order, rows)

@@ -4,31 +4,10 @@ from itertools import permutations
 
 from rowfolds.blocks import blocks_of, each_block, is_block, is_plain, overlapping_block, strong_blocks
 from rowfolds.errors import NoBlock
-from samples import OTHER_VALUES, ROWS, SMALL_ROWS
+from samples import OTHER_VALUES, ROWS, SMALL_ROWS, direct_blocks, direct_strong_blocks, overlap
 
 R = (2, 0, 1, 3)
 S = (1, 3, 0, 2)
-
-
-def follow(row, first, last):
-    """Say whether the numbers, when sorted, go up in steps of one."""
-    numbers = sorted(row[first:last + 1])
-    return all(number + 1 == greater for number, greater in zip(numbers, numbers[1:]))
-
-
-def direct_blocks(row):
-    pairs = [(first, last) for first in range(len(row)) for last in range(first, len(row))]
-    return [pair for pair in pairs if follow(row, *pair)]
-
-
-def overlap(block, other):
-    places, others = [set(range(first, last + 1)) for first, last in (block, other)]
-    return bool(places & others) and bool(places - others) and bool(others - places)
-
-
-def direct_strong_blocks(row):
-    blocks = direct_blocks(row)
-    return [block for block in blocks if not any(overlap(block, other) for other in blocks)]
 
 
 class IsBlockTest(unittest.TestCase):

@@ -2,34 +2,52 @@
 
 import unittest
 from copy import deepcopy
+from inspect import isgenerator
 
-from rowfolds import blocks, rows
-from rowfolds.errors import NoBlock, NoPlaces, NoRows, TooLong
-from samples import OTHER_VALUES, ROWS
+from rowfolds import blocks, counting, folds, plans, rows, trees
+from rowfolds.errors import (
+    NoBlock, NoFold, NoIndex, NoNumber, NoPath, NoPlace, NoPlaces, NoRows, NotFoldable, TooLong,
+)
+from samples import HUGE_PLAN, LARGE_TREES, OTHER_VALUES, ROWS, SMALL_PLANS, TREES_TO_FOUR
 
 SOME_ROWS = ROWS[:40] + ROWS[-20:]
+SOME_TREES = TREES_TO_FOUR + LARGE_TREES[::5]
+SOME_PLANS = SMALL_PLANS[::7] + [HUGE_PLAN]
+DOCUMENTED = (NoBlock, NoFold, NoIndex, NoNumber, NoPath, NoPlace, NoPlaces, NoRows, NotFoldable, TooLong)
+
+R = (2, 0, 1, 3)
+T = ("+", (("-", (".", ".")), "."))
+P = (((1, 0), (-1, -1)), ((0, 1, 2), (0, -1, 0)))
 
 
 def outcome(function, arguments, keywords):
     """Return the result, or the error with its fields, so that two of them can be compared."""
     try:
         result = function(*arguments, **keywords)
-    except (NoBlock, NoPlaces, NoRows, TooLong) as error:
+        return list(result) if isgenerator(result) else result
+    except DOCUMENTED as error:
         return (type(error), vars(error))
-    return list(result) if function == blocks.each_block else result
 
 
-def calls():
-    for value in OTHER_VALUES + SOME_ROWS:
-        yield rows.is_row, (value,), {}
-        yield rows.row_error, (value,), {}
-        yield rows.chosen, ((2, 0, 1, 3), value), {}
-        yield blocks.is_block, ((2, 0, 1, 3), value), {}
-        yield blocks.overlapping_block, ((2, 0, 1, 3), value), {}
+def calls_with_any_value():
+    takes_a_value = [rows.is_row, rows.row_error, trees.is_tree, counting.foldable_index, plans.is_plan]
+    takes_one_behind = [
+        (rows.chosen, R), (blocks.is_block, R), (blocks.overlapping_block, R), (trees.part_at, T), (folds.folded, R),
+        (folds.is_history, R), (folds.certificate_holds, R), (counting.foldable_at, 5), (plans.number_at, P),
+        (plans.place_of, P),
+    ]
+    for value in OTHER_VALUES + SOME_ROWS + SOME_TREES[:10] + SOME_PLANS[:10]:
+        for function in takes_a_value:
+            yield function, (value,), {}
+        for function, first in takes_one_behind:
+            yield function, (first, value), {}
+
+
+def calls_with_rows():
     for row in SOME_ROWS:
-        for function in (rows.pattern_of, rows.reversed_row, rows.flipped_row, rows.inverse_row):
-            yield function, (row,), {}
-        for function in (blocks.each_block, blocks.blocks_of, blocks.strong_blocks, blocks.is_plain):
+        for function in (rows.pattern_of, rows.reversed_row, rows.flipped_row, rows.inverse_row, blocks.each_block,
+                         blocks.blocks_of, blocks.strong_blocks, blocks.is_plain, trees.tree_of, folds.folds_of,
+                         folds.rest_of, folds.is_foldable, folds.find_four, folds.certificate):
             yield function, (row,), {}
         yield rows.chosen, (row, (0,)), {}
         yield rows.joined, (row, row), {}
@@ -37,7 +55,33 @@ def calls():
         yield blocks.blocks_of, (row,), {"least": 2, "most": 3}
         for block in list(blocks.each_block(row)):
             yield blocks.overlapping_block, (row, block), {}
+        for place in folds.folds_of(row):
+            yield folds.folded, (row, place), {}
+            yield folds.states_along, (row, (place,)), {}
+        yield folds.certificate_holds, (row, folds.certificate(row)), {}
     yield rows.joined, (), {}
+
+
+def calls_with_trees_and_plans():
+    for tree in SOME_TREES:
+        for function in (trees.row_of, trees.size_of, trees.count_blocks, plans.plan_of):
+            yield function, (tree,), {}
+        yield trees.part_at, (tree, (0, 0)), {}
+    for n in range(1, 6):
+        yield counting.count_foldable, (n,), {}
+        yield counting.each_foldable, (n,), {}
+        yield counting.foldable_at, (12 * n, 7), {}
+    for plan in SOME_PLANS:
+        for function in (plans.plan_size, plans.expand_plan, plans.inversions, plans.plan_is_foldable):
+            yield function, (plan,), {}
+        yield plans.number_at, (plan, 1), {}
+        yield plans.place_of, (plan, 1), {}
+
+
+def calls():
+    yield from calls_with_any_value()
+    yield from calls_with_rows()
+    yield from calls_with_trees_and_plans()
 
 
 class ConventionsTest(unittest.TestCase):
@@ -62,13 +106,28 @@ class ConventionsTest(unittest.TestCase):
     def test_results_are_tuples_of_integers(self):
         for row in SOME_ROWS:
             for result in (rows.pattern_of(row), rows.reversed_row(row), rows.flipped_row(row),
-                           rows.inverse_row(row), rows.chosen(row, (0,)), rows.joined(row)):
+                           rows.inverse_row(row), rows.chosen(row, (0,)), rows.joined(row), folds.rest_of(row),
+                           trees.row_of(trees.tree_of(row)), plans.expand_plan(((row, (-1,) * len(row)),)),
+                           *folds.states_along(row, folds.folds_of(row)[:1])):
                 self.assertIs(type(result), tuple)
                 self.assertEqual({type(number) for number in result}, {int})
             for result in (blocks.blocks_of(row), blocks.strong_blocks(row)):
                 self.assertIs(type(result), tuple)
                 self.assertEqual({type(block) for block in result}, {tuple})
                 self.assertEqual({type(place) for block in result for place in block}, {int})
+            for result in (folds.folds_of(row), folds.certificate(row)[1]):
+                self.assertIs(type(result), tuple)
+                self.assertLessEqual({type(place) for place in result}, {int})
+
+    def test_numbers_are_integers(self):
+        for tree in SOME_TREES:
+            self.assertEqual({type(trees.size_of(tree)), type(trees.count_blocks(tree))}, {int})
+        for plan in SOME_PLANS:
+            results = [plans.plan_size(plan), plans.number_at(plan, 0), plans.place_of(plan, 0), plans.inversions(plan)]
+            self.assertEqual({type(result) for result in results}, {int})
+        for n in (1, 2, 60):
+            self.assertIs(type(counting.count_foldable(n)), int)
+            self.assertIs(type(counting.foldable_index(tuple(range(n)))), int)
 
 
 if __name__ == "__main__":

@@ -65,6 +65,134 @@ BLOCKS = """
 [True, False, False]
 """
 
+TREES = """
+>>> from rowfolds.trees import is_tree
+>>> [is_tree('.'), is_tree(('+', ('.', '.'))), is_tree(('+', ('.', ('+', ('.', '.')))))]
+[True, True, False]
+
+>>> from rowfolds.trees import tree_of
+>>> R = (2, 0, 1, 3)
+>>> S = (1, 3, 0, 2)
+>>> [tree_of(R), tree_of(S)]
+[('+', (('-', ('.', ('+', ('.', '.')))), '.')), ((1, 3, 0, 2), ('.', '.', '.', '.'))]
+
+>>> from rowfolds.trees import row_of
+>>> row_of(('-', ('.', ('+', ('.', '.')))))
+(2, 0, 1)
+
+>>> from rowfolds.trees import count_blocks, size_of
+>>> T = ('+', ('.', '.', '.'))
+>>> [size_of(T), count_blocks(T)]
+[3, 6]
+
+>>> from rowfolds.trees import part_at
+>>> T = ('+', (('-', ('.', '.')), '.'))
+>>> [part_at(T, (0,)), part_at(T, (0, 1))]
+[('-', ('.', '.')), '.']
+"""
+
+FOLDING = """
+>>> from rowfolds.folds import folds_of
+>>> [folds_of((2, 0, 1, 3)), folds_of((0, 1, 2)), folds_of((1, 3, 0, 2))]
+[(1,), (0, 1), ()]
+
+>>> from rowfolds.folds import folded
+>>> R = (2, 0, 1, 3)
+>>> [folded(R, 1), folded((1, 0), 0)]
+[(1, 0, 2), (0,)]
+
+>>> from rowfolds.folds import folded
+>>> R = (2, 0, 1, 3)
+>>> folded(R, 0)
+raises NoFold(0)
+
+>>> from rowfolds.folds import is_foldable, rest_of
+>>> [rest_of((2, 0, 1, 3)), rest_of((1, 3, 0, 2, 4, 5)), is_foldable((1, 3, 0, 2))]
+[(0,), (1, 3, 0, 2, 4), False]
+
+>>> from rowfolds.folds import states_along
+>>> R = (2, 0, 1, 3)
+>>> list(states_along(R, (1, 0, 0)))
+[(2, 0, 1, 3), (1, 0, 2), (0, 1), (0,)]
+
+>>> from rowfolds.folds import is_history
+>>> R = (2, 0, 1, 3)
+>>> [is_history(R, (1, 0)), is_history(R, (0,)), is_history(R, ())]
+[True, False, True]
+
+>>> from rowfolds.folds import find_four
+>>> S = (1, 3, 0, 2)
+>>> [find_four(S), find_four((2, 0, 1, 3))]
+[(0, 1, 2, 3), None]
+
+>>> from rowfolds.folds import certificate
+>>> R = (2, 0, 1, 3)
+>>> certificate(R)
+('history', (1, 0, 0))
+
+>>> from rowfolds.folds import certificate_holds
+>>> S = (1, 3, 0, 2)
+>>> [certificate_holds(S, ('four', (0, 1, 2, 3))), certificate_holds(S, ('history', ()))]
+[True, False]
+"""
+
+COUNTING = """
+>>> from rowfolds.counting import count_foldable
+>>> [count_foldable(1), count_foldable(3), count_foldable(4), count_foldable(12)]
+[1, 6, 22, 5293446]
+
+>>> from rowfolds.counting import foldable_at
+>>> [foldable_at(3, 0), foldable_at(3, 2), foldable_at(3, 3)]
+[(0, 1, 2), (1, 0, 2), (2, 0, 1)]
+
+>>> from rowfolds.counting import foldable_at
+>>> foldable_at(2, 2)
+raises NoIndex(2)
+
+>>> from rowfolds.counting import foldable_index
+>>> [foldable_index((2, 0, 1)), foldable_index((1, 2, 0))]
+[3, 5]
+
+>>> from rowfolds.counting import each_foldable
+>>> list(each_foldable(3))
+[(0, 1, 2), (0, 2, 1), (1, 0, 2), (2, 0, 1), (2, 1, 0), (1, 2, 0)]
+"""
+
+PLANS = """
+>>> from rowfolds.plans import is_plan
+>>> [is_plan((((1, 0), (-1, -1)),)), is_plan((((0,), (0,)),))]
+[True, False]
+
+>>> from rowfolds.plans import plan_size
+>>> P = (((1, 0), (-1, -1)), ((0, 1, 2), (0, -1, 0)))
+>>> plan_size(P)
+5
+
+>>> from rowfolds.plans import number_at, place_of
+>>> P = (((1, 0), (-1, -1)), ((0, 1, 2), (0, -1, 0)))
+>>> [[number_at(P, k) for k in range(5)], place_of(P, 4)]
+[[1, 0, 2, 4, 3], 3]
+
+>>> from rowfolds.plans import expand_plan
+>>> P = (((1, 0), (-1, -1)), ((0, 1, 2), (0, -1, 0)))
+>>> expand_plan(P)
+(1, 0, 2, 4, 3)
+
+>>> from rowfolds.plans import plan_of
+>>> plan_of(('+', (('-', ('.', '.')), '.')))
+(((1, 0), (-1, -1)), ((0, 1), (0, -1)))
+
+>>> from rowfolds.plans import inversions
+>>> P = (((1, 0), (-1, -1)), ((0, 1, 2), (0, -1, 0)))
+>>> inversions(P)
+2
+
+>>> from rowfolds.plans import plan_is_foldable
+>>> P = (((1, 0), (-1, -1)), ((0, 1, 2), (0, -1, 0)))
+>>> plan_is_foldable(P)
+True
+"""
+
 
 def outcome_of(lines):
     """Return what the last line shows, in the words of the document."""
@@ -91,6 +219,18 @@ class ExamplesTest(unittest.TestCase):
 
     def test_blocks(self):
         self.check(BLOCKS, 6)
+
+    def test_trees(self):
+        self.check(TREES, 5)
+
+    def test_folding(self):
+        self.check(FOLDING, 9)
+
+    def test_counting(self):
+        self.check(COUNTING, 5)
+
+    def test_plans(self):
+        self.check(PLANS, 7)
 
 
 if __name__ == "__main__":

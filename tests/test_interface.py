@@ -21,8 +21,43 @@ SIGNATURES = {
         "strong_blocks": "(row)",
         "is_plain": "(row)",
     },
+    "trees": {
+        "is_tree": "(value)",
+        "tree_of": "(row)",
+        "row_of": "(tree)",
+        "size_of": "(tree)",
+        "count_blocks": "(tree)",
+        "part_at": "(tree, path)",
+    },
+    "folds": {
+        "folds_of": "(row)",
+        "folded": "(row, place)",
+        "rest_of": "(row)",
+        "is_foldable": "(row)",
+        "states_along": "(row, history)",
+        "is_history": "(row, value)",
+        "find_four": "(row)",
+        "certificate": "(row)",
+        "certificate_holds": "(row, value)",
+    },
+    "counting": {
+        "count_foldable": "(n)",
+        "foldable_at": "(n, index)",
+        "foldable_index": "(value)",
+        "each_foldable": "(n)",
+    },
+    "plans": {
+        "is_plan": "(value)",
+        "plan_size": "(plan)",
+        "number_at": "(plan, place)",
+        "place_of": "(plan, number)",
+        "expand_plan": "(plan)",
+        "plan_of": "(tree)",
+        "inversions": "(plan)",
+        "plan_is_foldable": "(plan)",
+    },
 }
-GENERATORS = ["each_block"]
+GENERATORS = ["each_block", "states_along", "each_foldable"]
 
 
 class InterfaceTest(unittest.TestCase):

@@ -5,17 +5,13 @@ from rowfolds.errors import NoPlaces, NoRows, TooLong
 from rowfolds.rows import (
     chosen, flipped_row, inverse_row, is_row, joined, pattern_of, reversed_row, row_error,
 )
-from samples import OTHER_VALUES, ROWS, SMALL_ROWS, nested
+from samples import OTHER_VALUES, ROWS, SMALL_ROWS, counted_pattern, nested
 
 NO_NUMBERS = [None, True, False, "0", "", (), (0,), [0], {}, -1, -2, 12, 13, 10 ** 59, -(10 ** 59), nested(0, 38)]
 
 
 def changed(row, place, item):
     return row[:place] + (item,) + row[place + 1:]
-
-
-def counted_pattern(numbers):
-    return tuple(sum(other < number for other in numbers) for number in numbers)
 
 
 class RowErrorTest(unittest.TestCase):
