@@ -70,7 +70,7 @@ def is_history(row, value):
 
 def is_four(row, value):
     """Return whether any value is a four of the row."""
-    return are_places(row, value) and len(value) == 4 and chosen(row, value) in FOUR_PATTERNS
+    return are_places(row, value) and chosen(row, value) in FOUR_PATTERNS
 
 
 def find_four(row):
