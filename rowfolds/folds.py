@@ -22,6 +22,11 @@ def folded(row, place):
     """Return the row after the fold at place."""
     if not is_fold(row, place):
         raise NoFold(place)
+    return after_fold(row, place)
+
+
+def after_fold(row, place):
+    """Return the row after a fold that it has."""
     return pattern_of(row[:place + 1] + row[place + 2:])
 
 
@@ -32,7 +37,7 @@ def history_and_rest(row):
     folds = folds_of(state)
     while len(folds) > 0:
         history.append(folds[0])
-        state = folded(state, folds[0])
+        state = after_fold(state, folds[0])
         folds = folds_of(state)
     return (tuple(history), state)
 

@@ -25,16 +25,16 @@ def is_entry(value, at):
     return all([is_between(child, -1, at - 1) for child in children])
 
 
-def place_sizes(sizes, children):
-    """Return the list of how many entries each place stands for."""
-    return [1 if child == -1 else sizes[child] for child in children]
+def at_places(found, children, single):
+    """Return the list of what was found for the child of each place, and single for a place without one."""
+    return [single if child == -1 else found[child] for child in children]
 
 
 def entry_sizes(plan):
     """Return the list of the sizes of the nested rows of all entries."""
     sizes = []
     for row, children in plan:
-        sizes.append(sum(place_sizes(sizes, children)))
+        sizes.append(sum(at_places(sizes, children, 1)))
     return sizes
 
 
@@ -51,7 +51,7 @@ def nested_number(plan, place):
     at = len(plan) - 1
     while at != -1:
         row, children = plan[at]
-        widths = place_sizes(sizes, children)
+        widths = at_places(sizes, children, 1)
         here = 0
         while left >= widths[here]:
             left -= widths[here]
@@ -127,7 +127,7 @@ def inversions(plan):
     pairs = []
     for row, children in plan:
         inside = sum([pairs[child] for child in children if child != -1])
-        pairs.append(inside + crossing_pairs(row, place_sizes(sizes, children)))
+        pairs.append(inside + crossing_pairs(row, at_places(sizes, children, 1)))
     return pairs[-1]
 
 

@@ -2,7 +2,7 @@
 
 from rowfolds.bounds import MAX_PLACES
 from rowfolds.errors import NoPlaces, NoRows, TooLong
-from rowfolds.values import is_index
+from rowfolds.values import is_ascending, is_index
 
 
 def is_row(value):
@@ -53,9 +53,7 @@ def are_places(row, value):
     if not isinstance(value, tuple) or len(value) == 0:
         return False
     # Only integers are compared with each other: other items may have no order.
-    if not all([is_index(item, len(row)) for item in value]):
-        return False
-    return all([place < later for place, later in zip(value, value[1:])])
+    return all([is_index(item, len(row)) for item in value]) and is_ascending(value)
 
 
 def chosen(row, places):

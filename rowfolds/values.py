@@ -17,3 +17,8 @@ def is_index(value, limit):
 def is_pair(value):
     """Return whether value is a tuple of two items."""
     return isinstance(value, tuple) and len(value) == 2
+
+
+def is_ascending(items):
+    """Return whether each item is greater than the one before it. The items have an order."""
+    return all([item < later for item, later in zip(items, items[1:])])

@@ -1,5 +1,6 @@
 """Rows, trees, plans and other values that several tests use, and direct looks at rows to compare results with."""
 
+from bisect import bisect_left
 from itertools import combinations, permutations
 from math import factorial
 
@@ -129,6 +130,15 @@ def direct_folded(row, place):
     return tuple(number - (number > gone) for number in row if number != gone)
 
 
+def direct_length(row):
+    """Return the length of a longest rising selection, by way of the smallest numbers in which they end."""
+    ends = []
+    for number in row:
+        at = bisect_left(ends, number)
+        ends[at:at + 1] = [number]
+    return len(ends)
+
+
 def splits(size, many):
     """Yield all tuples of that many sizes from 1 on with the sum size."""
     for cuts in combinations(range(1, size), many - 1):
@@ -223,6 +233,34 @@ def direct_row(tree):
     return counted_pattern(leaves_of(tree))
 
 
+def direct_is_tree(value):
+    """Follow the definition; the size is looked at last."""
+    return has_form(value) and len(leaves_of(value)) <= 12
+
+
+def has_form(value):
+    if isinstance(value, str):
+        return value == "."
+    if not isinstance(value, tuple) or len(value) != 2:
+        return False
+    kind, parts = value
+    if not isinstance(parts, tuple) or len(parts) < 2 or not all(has_form(part) for part in parts):
+        return False
+    if isinstance(kind, str):
+        return kind in ("+", "-") and all(part[0] != kind for part in parts)
+    if not isinstance(kind, tuple) or {type(number) for number in kind} != {int}:
+        return False
+    return sorted(kind) == list(range(len(parts))) and len(kind) <= 12 and direct_plain(kind)
+
+
+def direct_tree_text(tree):
+    """Write the tree as Python does, and take away what its text does not have."""
+    if tree == ".":
+        return "."
+    kind, parts = tree
+    return f"({str(kind).strip('()').replace(' ', '')} {' '.join(map(direct_tree_text, parts))})"
+
+
 def plan_leaves(plan, at=-1):
     """Return for each place of the nested row of an entry the numbers on the way to it."""
     row, children = plan[at]
@@ -249,6 +287,13 @@ def drawn_plan(draws, entries, places, back):
     return tuple(plan)
 
 
+def put_behind(unused, plan):
+    """Return the plan with some entries before it that it does not use."""
+    many = len(unused)
+    return unused + tuple((row, tuple(child if child == -1 else child + many for child in children))
+                          for row, children in plan)
+
+
 PLAN_DRAWS = Draws(3)
 SMALL_PLANS = [drawn_plan(PLAN_DRAWS, entries, places, back) for entries in range(1, 7) for places in range(2, 6)
                for back in (2, 4, 8) for _ in range(6)]
@@ -267,3 +312,11 @@ SMALL_PLANS += [
 # The nested row of this plan has 12 ** 20 places.
 TWELVE = (6, 0, 7, 1, 8, 2, 9, 3, 10, 4, 11, 5)
 HUGE_PLAN = tuple((TWELVE, (at - 1,) * 12) for at in range(20))
+
+LARGE_DRAWS = Draws(21)
+# Their nested rows have from a few to more than 10 ** 12 entries.
+LARGE_PLANS = [drawn_plan(LARGE_DRAWS, 20, places, back) for places in range(3, 13) for back in (1, 2, 3, 20)]
+# Each entry uses the one before it at all places.
+TOWERS = [HUGE_PLAN]
+for tower_row in [(0, 1), (1, 0), (2, 0, 1), (1, 3, 0, 2), (4, 1, 3, 0, 2), tuple(range(12)), tuple(range(12))[::-1]]:
+    TOWERS.append(tuple((tower_row, (at - 1,) * len(tower_row)) for at in range(20)))

@@ -1,8 +1,12 @@
 """The examples of the document, section by section, as they stand there."""
 
+import doctest
 import unittest
+from pathlib import Path
 
 from rowfolds import errors
+
+README = Path(__file__).resolve().parent.parent / "README.md"
 
 ROWS = """
 >>> from rowfolds.rows import is_row
@@ -193,6 +197,110 @@ PLANS = """
 True
 """
 
+SELECTIONS = """
+>>> from rowfolds.selections import longest_rising
+>>> len(longest_rising((2, 0, 1, 3)))
+3
+
+>>> from rowfolds.selections import smallest_cover
+>>> smallest_cover((2, 1, 0))
+((0, 1, 2),)
+
+>>> from rowfolds.selections import shows_longest
+>>> R = (2, 0, 1, 3)
+>>> [shows_longest(R, ((1, 2, 3), ((0, 1), (2,), (3,)))), shows_longest(R, ((1, 2), ((0, 1), (2,), (3,))))]
+[True, False]
+
+>>> from rowfolds.selections import falling_length, rising_length
+>>> P = (((1, 0), (-1, -1)), ((0, 1, 2), (0, -1, 0)))
+>>> [rising_length(P), falling_length(P)]
+[3, 2]
+
+>>> from rowfolds.selections import count_rising
+>>> P = (((1, 0), (-1, -1)), ((0, 1, 2), (0, -1, 0)))
+>>> [count_rising(P, k) for k in range(5)]
+[1, 5, 8, 4, 0]
+"""
+
+BENCHES = """
+>>> from rowfolds.benches import Bench
+>>> str(Bench((2, 0, 1)))
+'3 places, 0 edits'
+
+>>> from rowfolds.benches import Bench
+>>> [Bench.read('1 0').row(), Bench.is_edit(('exchange', 5)), Bench.is_edit(('insert', 0))]
+[(1, 0), True, False]
+
+>>> from rowfolds.benches import Bench
+>>> bench = Bench((2, 0, 1))
+>>> [bench.exchange(0), bench.insert(3, 0), bench.remove(1), bench.turn(0, 2), bench.row()]
+[1, 2, 3, 4, (0, 2, 1)]
+
+>>> from rowfolds.benches import Bench
+>>> bench = Bench((0, 1))
+>>> [bench.exchange(0), bench.undo(), bench.row()]
+[1, 0, (0, 1)]
+
+>>> from rowfolds.benches import Bench
+>>> bench = Bench((0, 1))
+>>> bench.run([('exchange', 0), ('remove', 7)])
+raises Rejected(1)
+
+>>> from rowfolds.benches import Bench
+>>> bench = Bench((2, 0, 1, 3))
+>>> [bench.version, bench.size, bench.rest, bench.remove(2), bench.size]
+[0, 4, (0,), 1, 3]
+
+>>> from rowfolds.benches import Bench
+>>> bench = Bench((0, 1))
+>>> [bench.exchange(0), bench.tree(), bench.row(version=0), list(bench.walk())]
+[1, ('-', ('.', '.')), (0, 1), [(0, (0, 1)), (1, (1, 0))]]
+
+>>> from rowfolds.benches import Bench
+>>> A = (0,)
+>>> [len(Bench(A)), Bench(A) == Bench(A), Bench(A) == A]
+[0, True, False]
+
+>>> from rowfolds.benches import FoldableBench
+>>> bench = FoldableBench((1, 0, 3, 2))
+>>> bench.exchange(1)
+raises HasFour((0, 1, 2, 3))
+
+>>> from rowfolds.benches import LoggedBench
+>>> bench = LoggedBench((0, 1))
+>>> [bench.run([('exchange', 0)]), bench.undo(), bench.log]
+[1, 0, (('run', 1), ('undo', 0))]
+
+>>> from rowfolds.benches import FoldableBench, LoggedBench, LoggedFoldableBench
+>>> bench = LoggedFoldableBench.read('1 0')
+>>> [isinstance(bench, FoldableBench), isinstance(bench, LoggedBench), bench.log]
+[True, True, ()]
+"""
+
+TEXTS = """
+>>> from rowfolds.texts import row_text, tree_text
+>>> [row_text((2, 0, 1)), tree_text(('-', ('.', ('+', ('.', '.'))))), tree_text(((1, 3, 0, 2), ('.', '.', '.', '.')))]
+['2 0 1', '(- . (+ . .))', '(1,3,0,2 . . . .)']
+
+>>> from rowfolds.texts import parse_row
+>>> parse_row('1 x')
+raises BadText(1)
+
+>>> from rowfolds.texts import parse_tree
+>>> parse_tree('(+ . (- . .))')
+('+', ('.', ('-', ('.', '.'))))
+
+>>> from rowfolds.texts import parse_tree
+>>> parse_tree('(+ .)')
+raises BadText(None)
+
+>>> from rowfolds.benches import Bench
+>>> from rowfolds.shells import Shell
+>>> shell = Shell(Bench((2, 0, 1, 3)))
+>>> [shell.execute('tree'), shell.execute('remove 0'), shell.execute('index'), shell.execute('turn 2 0'), shell.execute('turn')]
+['(+ (- . (+ . .)) .)', 'ok 1', '0', 'error BadOrder', 'unknown command']
+"""
+
 
 def outcome_of(lines):
     """Return what the last line shows, in the words of the document."""
@@ -231,6 +339,20 @@ class ExamplesTest(unittest.TestCase):
 
     def test_plans(self):
         self.check(PLANS, 7)
+
+    def test_selections(self):
+        self.check(SELECTIONS, 5)
+
+    def test_benches(self):
+        self.check(BENCHES, 11)
+
+    def test_texts_and_a_shell(self):
+        self.check(TEXTS, 5)
+
+    def test_the_readme(self):
+        results = doctest.testfile(str(README), module_relative=False)
+        self.assertEqual(results.failed, 0)
+        self.assertGreater(results.attempted, 30)
 
 
 if __name__ == "__main__":

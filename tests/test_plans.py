@@ -8,22 +8,14 @@ from rowfolds.plans import (
 )
 from rowfolds.trees import row_of, tree_of
 from samples import (
-    HUGE_PLAN, LARGE_TREES, OTHER_VALUES, ROWS, SMALL_PLANS, TREES, TREES_TO_SIX, TWELVE, Draws, direct_folded,
-    direct_folds, direct_fours, direct_nested_row, direct_row, drawn_plan, part_on, paths_of, variants,
+    HUGE_PLAN, LARGE_PLANS, LARGE_TREES, OTHER_VALUES, ROWS, SMALL_PLANS, TOWERS, TREES, TREES_TO_SIX, TWELVE, Draws,
+    direct_folded, direct_folds, direct_fours, direct_nested_row, direct_row, part_on, paths_of, put_behind, variants,
 )
 
 P = (((1, 0), (-1, -1)), ((0, 1, 2), (0, -1, 0)))
 S = (1, 3, 0, 2)
 ONE = ((0,), (-1,))
 NO_INDEXES = [None, True, False, "", "0", "1", (), (0,), [0], [], {}, {"0": 0}]
-
-LARGE_DRAWS = Draws(21)
-# Their nested rows have from a few to more than 10 ** 12 entries.
-LARGE_PLANS = [drawn_plan(LARGE_DRAWS, 20, places, back) for places in range(3, 13) for back in (1, 2, 3, 20)]
-# Each entry uses the one before it at all places.
-TOWERS = [HUGE_PLAN]
-for tower_row in [(0, 1), (1, 0), (2, 0, 1), (1, 3, 0, 2), (4, 1, 3, 0, 2), tuple(range(12)), tuple(range(12))[::-1]]:
-    TOWERS.append(tuple((tower_row, (at - 1,) * len(tower_row)) for at in range(20)))
 
 
 def direct_is_plan(value):
@@ -197,9 +189,7 @@ class SmallPlansTest(unittest.TestCase):
         for plan in [*SMALL_PLANS[:4], SMALL_PLANS[50], P]:
             if len(plan) > 4:
                 continue
-            moved = tuple((row, tuple(child if child == -1 else child + 16 for child in children))
-                          for row, children in plan)
-            larger = unused + moved
+            larger = put_behind(unused, plan)
             self.assertTrue(is_plan(larger))
             self.assertEqual(plan_size(larger), plan_size(plan))
             self.assertEqual(expand_plan(larger), direct_nested_row(plan))

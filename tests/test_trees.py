@@ -6,7 +6,8 @@ from rowfolds.rows import is_row
 from rowfolds.trees import count_blocks, is_tree, part_at, row_of, size_of, tree_of
 from samples import (
     LARGE_ROWS, LARGE_TREES, OTHER_VALUES, ROWS, ROWS_TO_SIX, TREES, TREES_TO_FOUR, TREES_TO_SIX, TWELVE, comb,
-    direct_blocks, direct_plain, direct_row, direct_strong_blocks, leaves_of, nested, part_on, paths_of, variants,
+    direct_blocks, direct_is_tree, direct_plain, direct_row, direct_strong_blocks, leaves_of, nested, part_on, paths_of,
+    variants,
 )
 
 DOTS = (".",) * 20
@@ -16,26 +17,6 @@ REPLACEMENTS = [
     ("+", (".", ".")), ("-", (".", ".")), ["+", (".", ".")], ("+", [".", "."]), PLAIN, (2, 0, 3, 1), (0, 1), (1, 0),
     (0, 2, 1), (1, 3, 0, 2, 4), (2, 4, 0, 3, 1), [1, 3, 0, 2], (True, 3, False, 2), (PLAIN, DOTS[:4]),
 ]
-
-
-def direct_is_tree(value):
-    """Follow the definition; the size is looked at last."""
-    return has_form(value) and len(leaves_of(value)) <= 12
-
-
-def has_form(value):
-    if isinstance(value, str):
-        return value == "."
-    if not isinstance(value, tuple) or len(value) != 2:
-        return False
-    kind, parts = value
-    if not isinstance(parts, tuple) or len(parts) < 2 or not all(has_form(part) for part in parts):
-        return False
-    if isinstance(kind, str):
-        return kind in ("+", "-") and all(part[0] != kind for part in parts)
-    if not isinstance(kind, tuple) or {type(number) for number in kind} != {int}:
-        return False
-    return sorted(kind) == list(range(len(parts))) and len(kind) <= 12 and direct_plain(kind)
 
 
 class IsTreeTest(unittest.TestCase):
